@@ -1,0 +1,1 @@
+"""Fullboats: ferries that depart when they are full."""
