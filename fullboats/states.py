@@ -36,37 +36,50 @@ def initial_state(network):
     return (1, ((),) * len(network))
 
 
+def queue_lengths(state):
+    """Return the list of the lengths of all queues of a state."""
+    return [len(queue) for queue in state[1]]
+
+
 def arrive(network, state):
     """Return (state, finished) after one arrival."""
     check_state(network, state)
     passenger, before = state
     queues = list(before)
-    finished = []
-    join_queue(network, queues, 0, passenger, finished)
-    return (passenger + 1, tuple(queues)), finished
+    events = []
+    join_queue(network, queues, 0, passenger, events)
+    return (passenger + 1, tuple(queues)), list_finished(events)
 
 
-def join_queue(network, queues, station, passenger, finished):
+def list_finished(events):
+    """Return the list of (port, passenger) of all who finish in a list of events."""
+    return [(place, passengers[0]) for place, passengers in events if isinstance(place, str)]
+
+
+def join_queue(network, queues, station, passenger, events):
     """Let a passenger join a station's queue, and its boat depart if that fills it.
 
-    This changes the list of queues, each a tuple, and appends to finished.
+    This changes the list of queues, each a tuple, and appends all that happens to events, in
+    order: (station, passengers) for a boat that departs, (port, passengers) for the one passenger
+    who finishes. Passengers need not be numbers here.
     """
     queues[station] = queues[station] + (passenger,)
     if len(queues[station]) == len(network[station]):
-        depart(network, queues, station, finished)
+        depart(network, queues, station, events)
 
 
-def depart(network, queues, station, finished):
+def depart(network, queues, station, events):
     """Let a station's boat depart with all who wait there, who take the first seats.
 
-    This changes the list of queues, each a tuple, and appends to finished.
+    This changes queues and events as join_queue does.
     """
-    boat = queues[station]
+    passengers = queues[station]
     queues[station] = ()
+    events.append((station, passengers))
     # A boat that a passenger fills must be left by all before the next one leaves this boat,
     # so each passenger's move is followed to its end at once.
-    for place, passenger in zip(network[station], boat):
+    for place, passenger in zip(network[station], passengers):
         if isinstance(place, str):
-            finished.append((place, passenger))
+            events.append((place, (passenger,)))
         else:
-            join_queue(network, queues, place, passenger, finished)
+            join_queue(network, queues, place, passenger, events)

@@ -50,6 +50,51 @@ class FormTest(unittest.TestCase):
                     with self.subTest(name=name):
                         self.assertFalse(hasattr(builtins, node.id), node.id)
 
+    def test_no_name_is_bound_twice_in_a_file(self):
+        for name, text in sources():
+            tree = ast.parse(text)
+            outer = [node.name for node in tree.body if isinstance(node, (ast.FunctionDef, ast.ClassDef))]
+            for node in tree.body:
+                if isinstance(node, ast.ImportFrom):
+                    outer += [alias.name for alias in node.names]
+                if isinstance(node, ast.Assign):
+                    outer += [target.id for target in node.targets]
+            inner = [node.arg for node in ast.walk(tree) if isinstance(node, ast.arg)]
+            for function in ast.walk(tree):
+                if isinstance(function, ast.FunctionDef):
+                    inner += [node.id for node in ast.walk(function)
+                              if isinstance(node, ast.Name) and isinstance(node.ctx, ast.Store)]
+            with self.subTest(name=name):
+                self.assertEqual(sorted(set(outer)), sorted(outer))
+                self.assertEqual(sorted(set(inner) & set(outer)), [])
+
+    def test_parameters_are_not_named_like_builtins(self):
+        for name, text in sources():
+            for node in ast.walk(ast.parse(text)):
+                if isinstance(node, ast.arg):
+                    with self.subTest(name=name):
+                        self.assertFalse(hasattr(builtins, node.arg), node.arg)
+
+    def test_no_two_files_import_from_each_other(self):
+        wants = {}
+        for name, text in sources():
+            wants[name] = [node.module.split(".")[1] + ".py" for node in ast.parse(text).body
+                           if isinstance(node, ast.ImportFrom) and node.module.startswith("fullboats.")]
+        done = []
+        while len(done) < len(wants):
+            ready = [name for name in wants if name not in done and set(wants[name]) <= set(done)]
+            self.assertNotEqual(ready, [], wants)
+            done += ready
+
+    def test_signs_and_values_that_are_not_used(self):
+        for name, text in sources():
+            for node in ast.walk(ast.parse(text)):
+                with self.subTest(name=name):
+                    self.assertNotIsInstance(node, (ast.Div, ast.GeneratorExp, ast.Global))
+                    if isinstance(node, ast.Constant):
+                        self.assertNotIsInstance(node.value, (float, complex))
+                        self.assertNotIn("%", str(node.value))
+
 
 if __name__ == "__main__":
     unittest.main()

@@ -5,6 +5,7 @@ import unittest
 from fullboats.errors import InvalidNetwork
 from fullboats.networks import ports, reachable_stations
 from fullboats.states import arrive, initial_state
+from plain import chain
 
 
 def arrive_anywhere(network):
@@ -13,11 +14,6 @@ def arrive_anywhere(network):
 
 
 TAKERS = (reachable_stations, ports, initial_state, arrive_anywhere)
-
-
-def chain(stations):
-    """Return a network in which each station leads to the next one, and the last one to a port."""
-    return tuple((station + 1,) for station in range(stations - 1)) + (("end",),)
 
 
 class ValidNetworkTest(unittest.TestCase):

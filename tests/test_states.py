@@ -5,42 +5,16 @@ import unittest
 
 from fullboats.errors import InvalidNetwork, InvalidState
 from fullboats.states import arrive, initial_state
+from plain import SMALL, PlainRun, chain, random_network
 
-SMALL = ((1, "a", 1), (2, "b"), ("c", "b"))
 DEEP = ((1, "x", 1, "y"), (2, "b", 2), (3, "c"), ("d", "e"))
-
-
-def chain(stations):
-    """Return a network of single seats, each of which leads to the next station, at last to a port."""
-    return tuple((station + 1,) for station in range(stations - 1)) + (("end",),)
 
 
 def arrive_with_pending_moves(network, state):
     """Do what arrive does by a list of moves still to be made, instead of nested departures."""
-    passenger, queues = state
-    queues = [list(queue) for queue in queues]
-    finished = []
-    pending = [(0, passenger)]
-    while pending:
-        place, mover = pending.pop(0)
-        if isinstance(place, str):
-            finished.append((place, mover))
-            continue
-        queues[place].append(mover)
-        if len(queues[place]) == len(network[place]):
-            pending = list(zip(network[place], queues[place])) + pending
-            queues[place] = []
-    return (passenger + 1, tuple(map(tuple, queues))), finished
-
-
-def random_network(chooser, most_stations):
-    """Return a network that often leads on, so that boats fill other boats."""
-    stations = chooser.randint(1, most_stations)
-    network = []
-    for station in range(stations):
-        places = ["a", "b", "c"] + 2 * list(range(station + 1, min(station + 4, stations)))
-        network.append(tuple(chooser.choice(places) for _ in range(chooser.randint(1, 4))))
-    return tuple(network)
+    run = PlainRun(network, state)
+    finished = run.arrive()
+    return run.state(), finished
 
 
 class InitialStateTest(unittest.TestCase):
