@@ -9,6 +9,26 @@ from fullboats.states import check_state, depart, list_finished
 def send_early(network, state, station):
     """Return (state, finished) after a station's boat departs with those who wait there."""
     check_state(network, state)
+    return send_boat(network, state, station)
+
+
+def leave(network, state, passenger):
+    """Return the state in which a passenger has left a queue."""
+    check_state(network, state)
+    return remove_passenger(state, passenger)
+
+
+def replace_seat(network, station, seat, place):
+    """Return the network in which a seat leads to another place."""
+    check_network(network)
+    return change_seat(network, station, seat, place)
+
+
+# The following functions do the same with networks and states that are known to be valid.
+
+
+def send_boat(network, state, station):
+    """Return (state, finished) after a boat departs early."""
     check_station(network, station)
     queues = list(state[1])
     if len(queues[station]) == 0:
@@ -18,9 +38,8 @@ def send_early(network, state, station):
     return (state[0], tuple(queues)), list_finished(events)
 
 
-def leave(network, state, passenger):
+def remove_passenger(state, passenger):
     """Return the state in which a passenger has left a queue."""
-    check_state(network, state)
     next_passenger, queues = state
     if not any([passenger in queue for queue in queues]):
         raise UnknownPassenger("the passenger does not wait")
@@ -28,9 +47,8 @@ def leave(network, state, passenger):
     return (next_passenger, tuple(left))
 
 
-def replace_seat(network, station, seat, place):
+def change_seat(network, station, seat, place):
     """Return the network in which a seat leads to another place."""
-    check_network(network)
     check_station(network, station)
     seats = list(network[station])
     if not 0 <= seat < len(seats):

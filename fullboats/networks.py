@@ -7,9 +7,14 @@ MAX_SEATS = 8
 MAX_LETTERS = 8
 
 
+def is_letters(text):
+    """Tell whether a text is letters a to z, at least one."""
+    return len(text) > 0 and all(["a" <= letter <= "z" for letter in text])
+
+
 def is_word(text):
     """Tell whether a text is one to eight letters a to z."""
-    return 1 <= len(text) <= MAX_LETTERS and all(["a" <= letter <= "z" for letter in text])
+    return len(text) <= MAX_LETTERS and is_letters(text)
 
 
 def is_place(place, station, stations):
