@@ -4,6 +4,7 @@ import random
 import unittest
 
 from fullboats.errors import ScriptSyntaxError
+from fullboats.script_optimizer import optimize_script
 from fullboats.script_printer import format_script
 from fullboats.script_runner import run_script
 from plain_scripts import KEYWORDS, PlainError, ScriptMaker, plain_parse
@@ -19,7 +20,7 @@ def run(source):
 class ScriptSyntaxTest(unittest.TestCase):
 
     def check_fault(self, source, row, column):
-        for function in (format_script, run):
+        for function in (format_script, optimize_script, run):
             with self.subTest(source=source, function=function.__name__):
                 with self.assertRaises(ScriptSyntaxError) as caught:
                     function(source)
