@@ -5,6 +5,9 @@ from fullboats.networks import check_network, is_letters
 from fullboats.states import check_state
 
 MAX_DIGITS = 2
+# Python converts only numbers of some thousand digits at once, so longer ones are converted by groups of digits.
+GROUP_DIGITS = 64
+GROUP = 10 ** 64
 
 
 def format_network(network):
@@ -50,7 +53,7 @@ def parse_state(network, text):
 
 def join_words(values):
     """Return the line of words and numbers."""
-    return " ".join([str(value) for value in values])
+    return " ".join([value if isinstance(value, str) else format_number(value) for value in values])
 
 
 def parse_place(word, row):
@@ -67,11 +70,30 @@ def parse_passengers(line, row):
     word, *numbers = line.split(" ")
     if word != ("next" if row == 0 else "queue") or (row == 0 and len(numbers) != 1):
         raise InvalidText(row)
-    for number in numbers:
-        # Passengers are numbered from 1 on, so 0 is no passenger's number.
-        if not is_number(number) or number == "0":
-            raise InvalidText(row)
-    return tuple([int(number) for number in numbers])
+    # 0 is a number, too, though no passenger's: that makes the state invalid, not the line.
+    if not all([is_number(number) for number in numbers]):
+        raise InvalidText(row)
+    return tuple([parse_number(number) for number in numbers])
+
+
+def format_number(number):
+    """Return the digits of a number from 0 on, however many there are."""
+    groups = []
+    while number >= GROUP:
+        number, group = divmod(number, GROUP)
+        groups.append(str(group).zfill(GROUP_DIGITS))
+    groups.append(str(number))
+    return "".join(groups[::-1])
+
+
+def parse_number(digits):
+    """Return the number of one or more digits, however many there are."""
+    number = 0
+    worth = 1
+    for end in range(len(digits), 0, -GROUP_DIGITS):
+        number += int(digits[max(0, end - GROUP_DIGITS):end]) * worth
+        worth *= GROUP
+    return number
 
 
 def is_number(word):

@@ -12,7 +12,7 @@ BUILTINS = (
     " divmod Exception ValueError").split()
 METHODS = (
     "append clear copy count endswith extend find get index insert isdigit items join keys partition pop remove replace"
-    " reverse setdefault split startswith update values add discard").split()
+    " reverse setdefault split startswith update values zfill add discard").split()
 # Names that are not used at all, and words that do not occur.
 BARRED_NAMES = (
     "register mro elements open input law version_info with_traceback add_note breakpoint compile delattr dir eval exec"

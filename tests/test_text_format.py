@@ -1,6 +1,7 @@
 """Tests of fullboats.text_format: point 20, and point 1 as far as it speaks of it."""
 
 import random
+import re
 import unittest
 
 from fullboats.errors import InvalidNetwork, InvalidState, InvalidText
@@ -53,7 +54,7 @@ class NetworkTextTest(unittest.TestCase):
         for line in (
                 "", " ", "a ", " a", "a  b", "1  a", " 1 a", "1 a ", "A", "aB", "a1", "1a", "a 1b", "01", "00", "a 01",
                 "100", "001", "1 100", "1000000", "-1", "+1", "1.", "a,b", "a\tb", "\ta", "a\r", "\xe9", "a\xa0b", "a_b",
-                "\u0663", "\xb2", "\u2028a", "a\x0bb", "#", "1 a # b", "1\u3000a"):
+                "\u0663", "\xb2", "\u2028a", "a\x0bb", "#", "1 a # b", "1\u3000a", "1" + "0" * 5000):
             self.check_text_fault(line, 0)
             self.check_text_fault("1 b\n" + line, 1)
             self.check_text_fault("1 b\n" + line + "\nc\n" + line, 1)
@@ -157,18 +158,71 @@ class StateTextTest(unittest.TestCase):
         self.assertEqual(format_state(network, state), text)
         self.assertEqual(parse_state(network, text), state)
 
+    def check_long_number(self, digits, number):
+        """Check a state whose passengers have the digits of this number and one more."""
+        network = (("a",) * 3, ("b",) * 2, ("c",) * 4)
+        state = (10 * number + 2, ((1, 10 * number + 1), (), (10 * number, 2, 3)))
+        text = f"next {digits}2\nqueue 1 {digits}1\nqueue\nqueue {digits}0 2 3"
+        # Not assertEqual: it would show numbers that differ, which Python refuses if they are long.
+        self.assertTrue(format_state(network, state) == text, len(digits))
+        self.assertTrue(parse_state(network, text) == state, len(digits))
+
+    def test_numbers_of_any_length(self):
+        lengths = (639, 640, 641, 4298, 4299, 4300, 4301, 4352, 5000, 8600, 8601, 12345, 30000)
+        for length in (*range(1, 200), *lengths):
+            self.check_long_number("1" + "0" * (length - 1), 10 ** (length - 1))
+            self.check_long_number("9" * length, 10 ** length - 1)
+
+    def test_long_numbers_of_any_digits(self):
+        chooser = random.Random(206)
+        for _ in range(200):
+            # Python converts the pieces, which are short.
+            digits = chooser.choice("123456789")
+            number = int(digits)
+            for length in chooser.choices(range(1, 90), k=chooser.randint(1, 160)):
+                piece = "".join(chooser.choices("0000123456789", k=length))
+                digits += piece
+                number = number * 10 ** length + int(piece)
+            self.check_long_number(digits, number)
+
+    def test_long_numbers_of_invalid_states(self):
+        for zeros in (4298, 4299, 4300, 5000, 20000):
+            long = "1" + "0" * zeros
+            for text in (
+                    f"next 5\nqueue {long}\nqueue", f"next 5\nqueue\nqueue {long}", f"next {long}\nqueue {long}\nqueue",
+                    f"next {long}\nqueue {long}0\nqueue", f"next {long}0\nqueue {long}\nqueue {long}",
+                    f"next {long}0\nqueue {long} 3\nqueue", f"next {long}\nqueue 0\nqueue"):
+                with self.assertRaises(InvalidState):
+                    parse_state(NETWORK, text)
+            for state in ((5, ((10 ** zeros,), ())), (10 ** zeros, ((), (10 ** zeros,))), (-(10 ** zeros), ((), ()))):
+                with self.assertRaises(InvalidState):
+                    format_state(NETWORK, state)
+
+    def test_long_numbers_in_lines_that_are_not_so_formed(self):
+        for zeros in (4298, 4299, 4300, 5000, 20000):
+            long = "1" + "0" * zeros
+            for wrong in ("0" + long, "00" * zeros, "-" + long, "+" + long, long + "x", long + "_0", long + "\u0660"):
+                self.check_text_fault(f"next {wrong}\nqueue\nqueue", 0)
+                self.check_text_fault(f"next {long}\nqueue {wrong}\nqueue", 1)
+                self.check_text_fault(f"next {long}\nqueue {long}\nqueue 3 {wrong}", 2)
+            self.check_text_fault(f"next {long} {long}\nqueue\nqueue", 0)
+            self.check_text_fault(f"next {long}\nqueue\nqueues", 2)
+            self.check_text_fault(f"next {long}\nqueue", 2)
+            self.check_text_fault(f"next {long}\nqueue\nqueue\nqueue {long}", 3)
+
     def test_lines_that_are_not_so_formed(self):
         for line in (
-                "", " ", "next", "next ", "next  5", " next 5", "next 5 ", "next 5 6", "next 05", "next 005", "next 0",
-                "next 00", "next -1", "next +5", "next x", "next 5x", "next5", "next 5.", "Next 5", "NEXT 5", "nexT 5",
-                "queue 5", "queue", "5", "5 next", "next\t5", "next 5\r", "next \u0665", "next \xb2", "net 5", "next 1_0",
-                "next next 5", "following 5", "next 5 #"):
+                "", " ", "next", "next ", "next  5", " next 5", "next 5 ", "next 5 6", "next 05", "next 005", "next 00",
+                "next 000", "next 0 0", "next 0x", "next -0", "next -1", "next +5", "next x", "next 5x", "next5", "next 5.",
+                "Next 5", "NEXT 5", "nexT 5", "queue 5", "queue", "5", "5 next", "next\t5", "next 5\r", "next \u0665",
+                "next \xb2", "net 5", "next 1_0", "next next 5", "following 5", "next 5 #"):
             self.check_text_fault(line + "\nqueue\nqueue", 0)
             self.check_text_fault(line, 0)
         for line in (
                 "", " ", "queue ", " queue", "queue  1", "queue 1 ", "queue 1  2", "queue 01", "queue 1 02", "queue -1",
                 "queue x", "queue 1x", "queue1", "Queue 1", "queue,1", "queue 1,2", "queue\t1", "queue 1\r", "queue \u0661",
-                "next 5", "next", "1", "1 queue", "queues 1", "queu 1", "queue queue", "queue 0", "queue 1 0", "a 1"):
+                "next 5", "next", "1", "1 queue", "queues 1", "queu 1", "queue queue", "queue 00", "queue 1 00", "queue 0 01",
+                "queue 0 ", "queue  0", "queue -0", "queue 0x", "a 1"):
             self.check_text_fault("next 9\n" + line + "\nqueue", 1)
             self.check_text_fault("next 9\nqueue\n" + line, 2)
             self.check_text_fault("next 9\n" + line, 1)
@@ -204,6 +258,62 @@ class StateTextTest(unittest.TestCase):
         self.check_text_fault("next 1\nqueue 1\nqueue 01", 2)
         self.check_text_fault("next 1\nqueue 1", 2)
         self.check_text_fault("next 1\nqueue 1\nqueue\nqueue", 3)
+
+    def test_zero_is_a_number_but_no_passenger(self):
+        for text in (
+                "next 0\nqueue\nqueue", "next 0\nqueue 0\nqueue", "next 0\nqueue 1\nqueue", "next 1\nqueue 0\nqueue",
+                "next 5\nqueue 0\nqueue", "next 5\nqueue\nqueue 0", "next 5\nqueue 0\nqueue 0",
+                "next 5\nqueue 1 0\nqueue", "next 5\nqueue 0 0 0\nqueue"):
+            with self.subTest(text=text), self.assertRaises(InvalidState):
+                parse_state(NETWORK, text)
+        with self.assertRaises(InvalidState):
+            parse_state((("a", "b", "c"),), "next 9\nqueue 3 0")
+        # Another line that is not so formed, missing or superfluous is told first.
+        self.check_text_fault("next 0\nqueue 00\nqueue", 1)
+        self.check_text_fault("next 0\nqueue 0\nqueues", 2)
+        self.check_text_fault("next 5\nqueue 0\nqueue 1 01", 2)
+        self.check_text_fault("next 0", 1)
+        self.check_text_fault("next 5\nqueue 0", 2)
+        self.check_text_fault("next 0\nqueue 0\nqueue 0\nqueue", 3)
+        self.check_text_fault("next 9\nqueue 0\nqueue\nqxeue 4 2", 3, SMALL)
+
+    def test_changed_texts(self):
+        chooser = random.Random(204)
+        told = {InvalidText: 0, InvalidState: 0, None: 0}
+        for network, state in random_cases(205, 4000, 4, 4):
+            text = format_state(network, state)
+            start = chooser.randint(0, len(text))
+            piece = chooser.choice(["", "0", " 0", "1", "7", "x", "A", " ", "\n", "-", "\nqueue"])
+            text = text[:start] + piece + text[start + chooser.randrange(2):]
+            error, row = self.plain_fault(network, text)
+            told[error] += 1
+            with self.subTest(text=text):
+                if error is None:
+                    self.assertEqual(format_state(network, parse_state(network, text)), text)
+                    continue
+                with self.assertRaises(error) as caught:
+                    parse_state(network, text)
+                if error is InvalidText:
+                    self.assertEqual(caught.exception.row, row)
+        self.assertGreater(min(told.values()), 100)
+
+    def plain_fault(self, network, text):
+        """Return (InvalidText, row), (InvalidState, None) or (None, None)."""
+        lines = text.split("\n")
+        number = "(0|[1-9][0-9]*)"
+        for row in range(1 + len(network)):
+            form = f"queue( {number})*" if row else f"next {number}"
+            if row == len(lines) or not re.fullmatch(form, lines[row]):
+                return InvalidText, row
+        if len(lines) > 1 + len(network):
+            return InvalidText, 1 + len(network)
+        queues = [[int(word) for word in line.split(" ")[1:]] for line in lines]
+        next_passenger, waiting = queues[0][0], sum(queues[1:], [])
+        if any(len(queue) >= len(seats) for queue, seats in zip(queues[1:], network)) or next_passenger == 0:
+            return InvalidState, None
+        if len(set(waiting)) < len(waiting) or set(waiting) - set(range(1, next_passenger)):
+            return InvalidState, None
+        return None, None
 
     def test_order_of_the_errors(self):
         for function, argument in ((format_state, (0, ())), (parse_state, "what")):
